@@ -17,14 +17,14 @@ func root(a []uint32) []uint32 {
 	}
 	half := bitLen(a) / 4
 	upper := root(shiftDown(a, 2*half))
-	guess := shiftUp(add(upper, From(1)), half)
+	above := shiftUp(add(upper, From(1)), half)
 	for {
-		quotient, _ := divide(a, guess)
-		next := shiftDown(add(guess, quotient), 1)
-		if compare(next, guess) >= 0 {
-			return guess
+		quotient, _ := divide(a, above)
+		next := shiftDown(add(above, quotient), 1)
+		if compare(next, above) >= 0 {
+			return above
 		}
-		guess = next
+		above = next
 	}
 }
 
