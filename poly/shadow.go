@@ -1,15 +1,14 @@
 package poly
 
 import (
-	"math/bits"
-
 	"isochrone/api"
+	"isochrone/modular"
 )
 
 // A division that leaves a remainder in the end may make millions of terms before that, or very long numbers. A shadow shows soon that it does: this is what is left of a polynomial modulo a prime number when all variables but one have fixed values. If q divides p, then the shadow of q divides that of p.
 
 // prime is the modulus of shadows.
-const prime = 1<<61 - 1
+const prime = modular.First
 
 // fixed has the values of variables in shadows. They are arbitrary, so that a polynomial that is not made for them is hardly ever zero there.
 var fixed = [api.MaxVars]uint64{
@@ -40,11 +39,11 @@ func mayDivide(q, p []term, n int) bool {
 func residues(p []term) (list []uint64, ok bool) {
 	list = make([]uint64, len(p))
 	for i, t := range p {
-		num, den := t.coef.Residues(prime)
+		num, den := t.coef.Residues(uint64(prime))
 		if den == 0 {
 			return nil, false
 		}
-		list[i] = timesMod(num, inverseMod(den))
+		list[i] = prime.Times(num, prime.Inverse(den))
 	}
 	return list, true
 }
@@ -65,67 +64,19 @@ func shadow(p []term, given []uint64, i int) []uint64 {
 		c := given[at]
 		for k, value := range fixed {
 			if k != i {
-				c = timesMod(c, powerMod(value, uint64(t.exps.exponent(k))))
+				c = prime.Times(c, prime.Power(value, uint64(t.exps.exponent(k))))
 			}
 		}
 		own := t.exps.exponent(i)
-		coefs[own] = plusMod(coefs[own], c)
+		coefs[own] = prime.Plus(coefs[own], c)
 	}
-	return trimmed(coefs)
+	return modular.Trimmed(coefs)
 }
 
-// trimmed leaves out the leading zeros.
-func trimmed(coefs []uint64) []uint64 {
-	n := len(coefs)
-	for n > 0 && coefs[n-1] == 0 {
-		n--
-	}
-	return coefs[:n]
-}
-
-// shadowDivides reports whether q divides p. It overwrites p. The zero polynomial divides itself alone.
+// shadowDivides reports whether q divides p. The zero polynomial divides itself alone.
 func shadowDivides(q, p []uint64) bool {
 	if len(q) == 0 {
 		return len(p) == 0
 	}
-	last := len(q) - 1
-	inverse := inverseMod(q[last])
-	for len(p) > last {
-		places := len(p) - len(q)
-		factor := prime - timesMod(p[len(p)-1], inverse)
-		for k, c := range q {
-			p[places+k] = plusMod(p[places+k], timesMod(factor, c))
-		}
-		p = trimmed(p)
-	}
-	return len(p) == 0
-}
-
-func plusMod(a, b uint64) uint64 {
-	return (a + b) % prime
-}
-
-// timesMod needs numbers that are at most the prime.
-func timesMod(a, b uint64) uint64 {
-	high, low := bits.Mul64(a, b)
-	return bits.Rem64(high, low, prime)
-}
-
-func powerMod(a, k uint64) uint64 {
-	raised := uint64(1)
-	for ; k > 0; k >>= 1 {
-		if k&1 == 1 {
-			raised = timesMod(raised, a)
-		}
-		a = timesMod(a, a)
-	}
-	return raised
-}
-
-// inverseMod needs a number that is not zero modulo the prime. By Fermat, a to the power prime-1 is 1.
-func inverseMod(a uint64) uint64 {
-	if a == 1 {
-		return 1
-	}
-	return powerMod(a, prime-2)
+	return len(prime.Remainder(p, q)) == 0
 }

@@ -77,12 +77,63 @@ func times(a, b []uint64) []uint64 {
 		return b
 	case isOne(b):
 		return a
+	case len(a) > len(b):
+		a, b = b, a
 	}
-	product := make([]uint64, len(a)+len(b))
-	for i, w := range a {
-		product[i+len(b)] = addTimes(product[i:i+len(b)], b, w)
+	// Powers of 2 have many zeros at the end.
+	lowA, lowB := zeroWords(a), zeroWords(b)
+	a, b = a[lowA:], b[lowB:]
+	product := make([]uint64, lowA+lowB+len(a)+len(b))
+	sum := product[lowA+lowB:]
+	switch {
+	case len(a) < longWords:
+		for i, w := range a {
+			sum[i+len(b)] = addTimes(sum[i:i+len(b)], b, w)
+		}
+	case 2*len(a) > len(b)+1:
+		addHalves(sum, a, b)
+	default:
+		for from := 0; from < len(b); from += len(a) {
+			part := trim(b[from:min(from+len(a), len(b))])
+			addTo(sum[from:], times(a, part))
+		}
 	}
 	return trim(product)
+}
+
+// longWords is the number of words from which on products are made of those of halves.
+const longWords = 80
+
+// addHalves adds a * b to the words of sum, which are zero and as many as those of a and b together. By Karatsuba, three products of halves are enough. It needs len(a) <= len(b), and in a more words than in a half of b.
+func addHalves(sum, a, b []uint64) {
+	half := (len(b) + 1) / 2
+	lowA, highA := trim(a[:half]), a[half:]
+	lowB, highB := trim(b[:half]), b[half:]
+	low, high := times(lowA, lowB), times(highA, highB)
+	all := times(plus(lowA, highA), plus(lowB, highB))
+	copy(sum, low)
+	copy(sum[2*half:], high)
+	addTo(sum[half:], minus(minus(all, low), high))
+}
+
+// addTo adds a to the words of sum, which have room for the result.
+func addTo(sum, a []uint64) {
+	carry := uint64(0)
+	for i, w := range a {
+		sum[i], carry = bits.Add64(sum[i], w, carry)
+	}
+	for i := len(a); carry > 0; i++ {
+		sum[i], carry = bits.Add64(sum[i], 0, carry)
+	}
+}
+
+// zeroWords returns the number of zero words at the end of a.
+func zeroWords(a []uint64) int {
+	n := 0
+	for n < len(a) && a[n] == 0 {
+		n++
+	}
+	return n
 }
 
 // addTimes adds b * w to the words of sum, which are as many as those of b, and returns the carry.

@@ -9,7 +9,7 @@ import (
 // pairs calls check with numbers of many lengths, up to far more than MaxWords words of 32 bits.
 func pairs(check func(a, b []uint64)) {
 	s := source(1)
-	lengths := []int{0, 1, 2, 3, 4, 7, 40, 2100}
+	lengths := []int{0, 1, 2, 3, 4, 7, 40, 85, 160, 450, 2100}
 	for _, n := range lengths {
 		for _, m := range lengths {
 			check(ones(n), ones(m))

@@ -1,7 +1,11 @@
 // Package wide has rational numbers of any length. Numbers on the way to a result have no limit (rule R5 of shared/DOC.md), but the functions of nat and rat refuse a result of more than MaxWords words; the layers above compute with the numbers of this package where a sum or a product may be too long for a while. Words have 64 bits here, which makes long products four times as fast.
 package wide
 
-import "isochrone/api"
+import (
+	"cmp"
+
+	"isochrone/api"
+)
 
 // Num is a rational number. The zero value is 0. A Num does not change.
 type Num struct {
@@ -62,6 +66,34 @@ func (a Num) Denominator() Num {
 		return Int(1)
 	}
 	return Num{num: a.den, den: []uint64{1}}
+}
+
+// Sign returns -1, 0 or 1 as a is negative, zero or positive.
+func (a Num) Sign() int {
+	switch {
+	case a.IsZero():
+		return 0
+	case a.neg:
+		return -1
+	}
+	return 1
+}
+
+// Cmp returns -1, 0 or 1 as a is less than, equal to or greater than b.
+func (a Num) Cmp(b Num) int {
+	if a.Sign() != b.Sign() {
+		return cmp.Compare(a.Sign(), b.Sign())
+	}
+	sizes := compare(times(a.num, b.den), times(b.num, a.den))
+	if a.neg {
+		return -sizes
+	}
+	return sizes
+}
+
+// Abs returns the absolute value of a.
+func (a Num) Abs() Num {
+	return Num{num: a.num, den: a.den}
 }
 
 // Neg returns -a.
