@@ -111,11 +111,8 @@ type joined struct {
 
 // join takes what a monic divisor modulo a further prime, times lead, says of the polynomial. It reports whether this confirms the coefficients: then they are likely to be right.
 func (j *joined) join(divisor []uint64, lead wide.Num, prime modular.Prime) bool {
-	switch {
-	case len(j.coefs) > 0 && len(divisor) > len(j.coefs):
-		return false
-	case len(divisor) != len(j.coefs):
-		// All primes so far gave too great a degree.
+	if len(divisor) != len(j.coefs) {
+		// Either all primes so far gave too great a degree or this one does, which is rare.
 		*j = joined{make(list, len(divisor)), wide.Int(1)}
 	}
 	top, _ := lead.Residues(uint64(prime))

@@ -191,6 +191,10 @@ func TestIsolateLimit(t *testing.T) {
 		"a bound of 201 words and no root":         {coefs{great, whole(0), whole(1)}, api.OK},
 		"a bound with a denominator of 200 words":  {coefs{neg(power(-6399)), whole(1)}, api.OK},
 		"a long polynomial":                        {coefs{neg(power(3200)), whole(0), power(-3200)}, api.ErrLimit},
+		"a long polynomial with a short bound":     {parse("0 -2 0 1").scaled(power(3200)).plus(coefs{power(-3200)}), api.ErrLimit},
+		"an upper end alone of 201 words":          {roots("0").times(coefs{neg(great), whole(1)}), api.ErrLimit},
+		"a lower end alone of 201 words":           {roots("0").times(coefs{great, whole(1)}), api.ErrLimit},
+		"a root and complex ones too close to it":  {monomial(whole(1), 12).minus(coefs{whole(-1), power(1600)}.times(coefs{whole(-1), power(1600)}).times(coefs{whole(-1), power(1600)})), api.OK},
 		"a long polynomial of odd degree":          {coefs{neg(power(3200)), power(-3200)}, api.ErrLimit},
 		"a long polynomial without roots":          {coefs{power(3200), whole(0), power(-3200)}, api.OK},
 		"a long polynomial of higher degree":       {coefs{power(3200), whole(0), whole(3), whole(0), power(-3200)}, api.OK},
@@ -212,6 +216,9 @@ func TestIsolateLimit(t *testing.T) {
 			if !root.ValidRoot(r) {
 				t.Errorf("Isolate with %s has %s", name, briefRoot(r))
 			}
+		}
+		if name == "a root and complex ones too close to it" && len(got) != 2 {
+			t.Errorf("Isolate with %s has %d roots", name, len(got))
 		}
 		if len(c.p) < 6 && e == api.OK {
 			sameRoots(t, "Isolate with "+name, got, e, c.p.isolate(), api.OK)
