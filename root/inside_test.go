@@ -171,39 +171,6 @@ func TestNarrowed(t *testing.T) {
 	}
 }
 
-// TestSimplest compares with all fractions in the order of their denominators.
-func TestSimplest(t *testing.T) {
-	check := func(lo, hi wide.Num) {
-		t.Helper()
-		got := simplest(lo, hi)
-		for den := 1; ; den++ {
-			// The one of the least size is first from 0 on.
-			for size := range 6 * den {
-				for _, num := range []int{size, -size} {
-					q := ratio(num, den)
-					if q.Cmp(lo) <= 0 || q.Cmp(hi) >= 0 {
-						continue
-					}
-					if q.Cmp(got) != 0 {
-						t.Errorf("the simplest number is %v, not %v", got, q)
-					}
-					return
-				}
-			}
-		}
-	}
-	for num := -30; num <= 30; num++ {
-		for den := 1; den <= 7; den++ {
-			for _, width := range []wide.Num{ratio(1, 100), ratio(1, 9), ratio(1, 3), wide.Int(1), ratio(5, 2)} {
-				lo := ratio(num, den*2)
-				if hi := lo.Add(width); hi.Cmp(wide.Int(5)) < 0 && lo.Cmp(wide.Int(-5)) > 0 {
-					check(lo, hi)
-				}
-			}
-		}
-	}
-}
-
 // TestCommonDivisorOfManyPrimes has a divisor whose numbers take many primes.
 func TestCommonDivisorOfManyPrimes(t *testing.T) {
 	common := list{wide.Int(5).Shift(2000).Add(wide.Int(1)), wide.Int(-7).Shift(900), wide.Int(3).Shift(1500).Add(wide.Int(2))}

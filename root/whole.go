@@ -6,37 +6,12 @@ import "isochrone/wide"
 
 // whole returns such a polynomial and a positive number whose product is p. It needs a polynomial that is not zero.
 func (p list) whole() (q list, factor wide.Num) {
-	den := wide.Int(1)
-	for _, x := range p {
-		d := x.Denominator()
-		common := wide.GCD(den, d)
-		own, _ := d.DivMod(common)
-		den = den.Mul(own)
-	}
-	q = make(list, len(p))
-	for i, x := range p {
-		// The denominator divides den.
-		scale, _ := den.DivMod(x.Denominator())
-		q[i] = x.Numerator().Mul(scale)
-	}
-	q, content := q.primitive()
-	return q, content.Quo(den)
+	return wide.Whole(p)
 }
 
 // primitive returns a polynomial with integer coefficients, not zero, without the positive factor that they have in common, and that factor.
 func (p list) primitive() (q list, content wide.Num) {
-	one := wide.Int(1)
-	for _, x := range p {
-		content = wide.GCD(content, x)
-		if content.Cmp(one) == 0 {
-			return p, content
-		}
-	}
-	q = make(list, len(p))
-	for i, x := range p {
-		q[i], _ = x.DivMod(content)
-	}
-	return q, content
+	return wide.Primitive(p)
 }
 
 // at returns the value of p at num/den, with den > 0, times den to the power of the degree of p.
