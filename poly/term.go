@@ -4,6 +4,7 @@ import (
 	"cmp"
 
 	"isochrone/api"
+	"isochrone/sorted"
 	"isochrone/wide"
 )
 
@@ -108,7 +109,7 @@ func sum(p, q []term) []term {
 		coef := s.coef.Add(t.coef)
 		return term{s.exps, coef}, !coef.IsZero()
 	}
-	return merge(p, q, order, join)
+	return sorted.Merge(p, q, order, join)
 }
 
 // scaled returns p times c.

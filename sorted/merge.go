@@ -1,7 +1,8 @@
-package poly
+// Package sorted has what sorted slices of any kind need. It is no layer.
+package sorted
 
-// merge returns the items of two sorted slices in one. order compares two items as cmp.Compare does; of two that are equal, join makes one, or none if it reports false.
-func merge[T any](a, b []T, order func(x, y T) int, join func(x, y T) (T, bool)) []T {
+// Merge returns the items of two sorted slices in one. order compares two items as cmp.Compare does; of two that are equal, join makes one, or none if it reports false.
+func Merge[T any](a, b []T, order func(x, y T) int, join func(x, y T) (T, bool)) []T {
 	merged := make([]T, 0, len(a)+len(b))
 	for len(a) > 0 && len(b) > 0 {
 		switch way := order(a[0], b[0]); {
